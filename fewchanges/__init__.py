@@ -1,0 +1,1 @@
+"""Two strings, twisted and turned, undone by few changes."""
