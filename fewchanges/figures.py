@@ -1,6 +1,6 @@
 """Figures: each is a whole number, how many half twists, or TURN; a row of them is a list."""
 
-from fewchanges.fraction import FLAT, twisted, turned
+from fewchanges.fraction import flat_fraction, turned, twisted
 
 # No figure has 0 half twists: one left without any is left out, so that 0 is free to stand for a turn.
 TURN = 0
@@ -22,7 +22,7 @@ def changed_figure(n, k):
 
 def fraction_of(figures):
     """The fraction to which a row of figures comes."""
-    fraction = FLAT
+    fraction = flat_fraction()
     for figure in figures:
         fraction = turned_or_twisted(fraction, figure, 0)
     return fraction

@@ -1,13 +1,15 @@
 """The calls on two strings, and what each of them answers."""
 
-from fewchanges.closing import name_of, ring_of, size_of
+from fewchanges.closing import is_ring, is_undone_by_one, name_of, names_of, ring_of, size_of
 from fewchanges.drawing import Drawing
 from fewchanges.figures import TURN, changed_row, crossings_of, fraction_of
-from fewchanges.fraction import FLAT
-from fewchanges.ways import first_of_fewest
+from fewchanges.fraction import flat_fraction, is_fraction
+from fewchanges.ways import MOST_CHANGES, first_of_fewest, fractions_by_ways
 
 MOST_FIGURES = 10
 MOST_HALF_TWISTS = 6
+MOST_OF_A_FRACTION = 9999
+MOST_SIZE = 400
 
 NO_SUCH_FIGURE = -2
 NOTHING_THERE = -6
@@ -112,7 +114,92 @@ def answer_split(drawing, numbers):
 
 def answer_flat(drawing, numbers):
     """flat ()"""
-    return keep_fewest(drawing, lambda fraction: fraction == FLAT)
+    flat = flat_fraction()
+    return keep_fewest(drawing, lambda fraction: fraction == flat)
+
+
+def answer_to(drawing, numbers):
+    """to (p, q)"""
+    p = numbers[0]
+    q = numbers[1]
+    if abs(p) > MOST_OF_A_FRACTION or q > MOST_OF_A_FRACTION or not is_fraction(p, q):
+        return [NOT_AS_TOLD]
+    wished = (p, q)
+    return keep_fewest(drawing, lambda fraction: fraction == wished)
+
+
+def answer_closes(drawing, numbers):
+    """closes (p, q)"""
+    size = numbers[0]
+    share = numbers[1]
+    if size > MOST_SIZE or not is_ring(size, share):
+        return [NOT_AS_TOLD]
+    wished = name_of((size, share))
+    return keep_fewest(drawing, lambda fraction: name_of(ring_of(fraction)) == wished)
+
+
+def answer_ways(drawing, numbers):
+    """ways (t)"""
+    t = numbers[0]
+    if t > MOST_CHANGES:
+        return [NOT_AS_TOLD]
+    return [len(fractions_by_ways(drawing.figures, t))]
+
+
+def answer_results(drawing, numbers):
+    """results (t)"""
+    t = numbers[0]
+    if t > MOST_CHANGES:
+        return [NOT_AS_TOLD]
+    return [len(set(fractions_by_ways(drawing.figures, t)))]
+
+
+def answer_rings(drawing, numbers):
+    """rings (t)"""
+    t = numbers[0]
+    if t > MOST_CHANGES:
+        return [NOT_AS_TOLD]
+    names = names_of(fractions_by_ways(drawing.figures, t))
+    told = [len(names)]
+    for name in names:
+        told.extend(list(name))
+    return told
+
+
+def answer_way(drawing, numbers):
+    """way ()"""
+    if drawing.way is None:
+        return [NOTHING_THERE]
+    return [len(drawing.way)] + list(drawing.way)
+
+
+def answer_do(drawing, numbers):
+    """do ()"""
+    if drawing.way is None:
+        return [NOTHING_THERE]
+    drawing.redraw(changed_row(drawing.figures, drawing.way))
+    return told_fraction(drawing)
+
+
+def answer_bound(drawing, numbers):
+    """bound ()"""
+    ring = ring_of(fraction_of(drawing.figures))
+    if ring[0] == 1:
+        return [0]
+    if is_undone_by_one(ring):
+        return [1]
+    return [2]
+
+
+def answer_figures(drawing, numbers):
+    """figures ()"""
+    return [len(drawing.figures)] + drawing.figures
+
+
+def answer_state(drawing, numbers):
+    """state ()"""
+    kept = 0 if drawing.way is None else 1
+    return [len(drawing.figures), crossings_of(drawing.figures), kept]
 
 
 ANSWERED_BY = {
@@ -127,6 +214,16 @@ ANSWERED_BY = {
     8: answer_undone,
     9: answer_split,
     10: answer_flat,
+    11: answer_to,
+    12: answer_closes,
+    13: answer_ways,
+    14: answer_results,
+    15: answer_rings,
+    16: answer_way,
+    17: answer_do,
+    18: answer_bound,
+    19: answer_figures,
+    20: answer_state,
 }
 
 
@@ -134,8 +231,6 @@ def answer(drawing, number, numbers):
     """What one call answers, with the numbers that it hands over."""
     if number != START and not drawing.started:
         return [NOT_STARTED]
-    if number not in ANSWERED_BY:
-        raise NotImplementedError(f"call {number} is not there yet")
     return ANSWERED_BY[number](drawing, numbers)
 
 

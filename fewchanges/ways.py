@@ -1,7 +1,7 @@
 """Ways: tuples that tell of each figure how many of its half twists are changed."""
 
 from fewchanges.figures import crossings_of, turned_or_twisted
-from fewchanges.fraction import FLAT
+from fewchanges.fraction import flat_fraction
 
 MOST_CHANGES = 4
 
@@ -11,11 +11,16 @@ def ways_with_fractions(figures, t):
     rest = crossings_of(figures)
     if t > rest:
         return []
-    begun = [((), FLAT, t)]
+    begun = [((), flat_fraction(), t)]
     for figure in figures:
         rest = rest - abs(figure)
         begun = longer_ways(begun, figure, rest)
     return [(way, fraction) for way, fraction, left in begun]
+
+
+def fractions_by_ways(figures, t):
+    """The fraction that comes of each way of t changes, in the order of the ways."""
+    return [fraction for way, fraction in ways_with_fractions(figures, t)]
 
 
 def longer_ways(begun, figure, rest):

@@ -1,21 +1,10 @@
 """undone, split and flat, and the way that they keep."""
 
 import unittest
-from itertools import combinations, product
+from itertools import product
 
-from fewchanges.drawing import Drawing
-from fewchanges.strings import answer
 from fewchanges.ways import ways_with_fractions
-from tests.helper import TURN, ask, behind, call, drawn
-
-
-def way_behind(row, *texts):
-    """The way that is kept behind these calls on the row, as a list, or None."""
-    drawing = Drawing()
-    for text in drawn(row) + list(texts):
-        numbers = call(text)
-        answer(drawing, numbers[0], numbers[1:])
-    return None if drawing.way is None else list(drawing.way)
+from tests.helper import TURN, ask, behind, slowly, way_behind
 
 
 class FewestTest(unittest.TestCase):
@@ -110,52 +99,13 @@ class WayTest(unittest.TestCase):
         self.assertEqual(ways_with_fractions([], 0), [((), (0, 1))])
 
 
-def crossings_one_by_one(row):
-    """The row with each half twist apart, as pairs of its figure and its sign (0 for a turn)."""
-    apart = []
-    for i, figure in enumerate(row):
-        if figure == TURN:
-            apart.append((i, 0))
-        else:
-            apart += [(i, 1 if figure > 0 else -1)] * abs(figure)
-    return apart
-
-
-def pair_of(apart, chosen):
-    """Upper and lower number, of any common sign, once the chosen crossings go the other way."""
-    upper, lower = 0, 1
-    for place, (i, sign) in enumerate(apart):
-        if sign == 0:
-            upper, lower = -lower, upper
-        elif place in chosen:
-            upper -= sign * lower
-        else:
-            upper += sign * lower
-    return upper, lower
-
-
-def slowly(row, is_wished):
-    """The fewest changes and the first way, of all choices of crossings one by one."""
-    apart = crossings_one_by_one(row)
-    places = [place for place, (i, sign) in enumerate(apart) if sign != 0]
-    for t in range(5):
-        ways = []
-        for chosen in combinations(places, t):
-            if is_wished(*pair_of(apart, set(chosen))):
-                changed = [apart[place][0] for place in chosen]
-                ways.append([changed.count(i) for i in range(len(row))])
-        if ways:
-            return t, max(ways)
-    return -33, None
-
-
 class EveryChoiceTest(unittest.TestCase):
     """No fewer changes do it, whichever crossings are changed, and the way told does."""
 
     WISHES = (
-        ("undone", lambda upper, lower: abs(upper) == 1),
-        ("split", lambda upper, lower: upper == 0),
-        ("flat", lambda upper, lower: upper == 0),
+        ("undone", lambda fraction: abs(fraction[0]) == 1),
+        ("split", lambda fraction: fraction[0] == 0),
+        ("flat", lambda fraction: fraction == (0, 1)),
     )
 
     def check(self, row):

@@ -17,6 +17,7 @@ METHODS = set("""append clear copy count endswith extend find get index insert i
 WORDS = set("""type typing typing_extensions enum Enum IntEnum StrEnum Flag IntFlag Generic Protocol ABC ABCMeta
     namedtuple NamedTuple TypedDict TYPE_CHECKING abstractmethod""".split())
 WITHIN_WORDS = ("dataclass", "overload", "contextmanager")
+COPYING = ("len", "list", "tuple", "dict", "sorted")
 STATEMENTS = (ast.Module, ast.FunctionDef, ast.ClassDef, ast.ImportFrom, ast.Assign, ast.AugAssign, ast.If, ast.While,
               ast.For, ast.Return, ast.Break, ast.Continue, ast.Pass, ast.Raise, ast.Try, ast.Expr)
 EXPRESSIONS = (ast.Constant, ast.List, ast.Tuple, ast.Dict, ast.BinOp, ast.UnaryOp, ast.Compare, ast.BoolOp, ast.IfExp,
@@ -89,6 +90,34 @@ class LanguageTest(unittest.TestCase):
             self.assertFalse(bound & drawn)
             self.assertFalse([name for name in bound | drawn | defined if name.startswith("_")])
             self.assertEqual(used - bound - drawn - defined - BUILT_INS, set())
+
+    def test_lists_tuples_and_dicts_of_a_files_top_are_only_read(self):
+        kept = {top.targets[0].id for tree in trees() for top in tree.body
+                if isinstance(top, ast.Assign) and isinstance(top.value, (ast.List, ast.Tuple, ast.Dict))}
+        for tree in trees():
+            read = set()
+            for node in ast.walk(tree):
+                if isinstance(node, ast.Subscript) and isinstance(node.ctx, ast.Load):
+                    read.add(id(node.value))
+                elif isinstance(node, ast.Compare):
+                    read |= {id(part) for part in [node.left] + node.comparators}
+                elif isinstance(node, (ast.For, ast.comprehension)):
+                    read.add(id(node.iter))
+                elif isinstance(node, ast.Call) and isinstance(node.func, ast.Name) and node.func.id in COPYING:
+                    read |= {id(part) for part in node.args}
+            for node in ast.walk(tree):
+                if isinstance(node, ast.Name) and node.id in kept and isinstance(node.ctx, ast.Load):
+                    self.assertIn(id(node), read, (node.id, node.lineno))
+
+    def test_sets_are_not_kept(self):
+        for tree in trees():
+            spots = set()
+            for node in ast.walk(tree):
+                if isinstance(node, ast.Call) and isinstance(node.func, ast.Name) and node.func.id in ("len", "sorted"):
+                    spots |= {id(part) for part in node.args}
+            for node in ast.walk(tree):
+                if isinstance(node, ast.Call) and isinstance(node.func, ast.Name) and node.func.id == "set":
+                    self.assertIn(id(node), spots, node.lineno)
 
     def test_imports_are_the_files_own(self):
         for tree in trees():
