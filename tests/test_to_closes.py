@@ -47,7 +47,7 @@ class ToTest(unittest.TestCase):
         self.assertEqual(behind([3, TURN, 2], "to 1 1", "figures", "comes"), [[1], [3, 3, 0, 2], [0, 5, 3]])
 
     def test_9999_and_10000_above(self):
-        # No row comes to these two, so that what is taken is answered by -33.
+        # One figure of 3 comes to none of these by any changes, so that what is taken is answered by -33.
         self.assertEqual(behind([3], "to 9999 1", "to -9999 1", "to 10000 1", "to -10000 1"),
                          [[-33], [-33], [-22], [-22]])
         self.assertEqual(behind([3], "to 9999 10", "to -9999 10", "to 10000 9", "to -10000 9"),
